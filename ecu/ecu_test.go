@@ -314,6 +314,21 @@ func TestOfferOfTheSameBytes(t *testing.T) {
 	y.publish("b", factory, 1)
 	must(t, y.offer(factory), api.OK)
 	y.runs("b", factory, 1, 1)
+	y.publish("b", []byte("other"), 1) // and so are other bytes of the same name and counter
+	must(t, y.offer([]byte("other")), api.OK)
+	y.runs("b", []byte("other"), 1, 0)
+}
+
+// P19.3: data must have the Size that is told, though the Sum is theirs.
+func TestOfferOfAnotherSize(t *testing.T) {
+	y := newYard(t, true)
+	data := []byte("data")
+	v := target("a", data, 1)
+	v.Size++
+	must(t, y.images.Publish(v), api.OK)
+	must(t, y.director.Assign("e0", v), api.OK)
+	y.sign(0, 9)
+	y.stays("another size", api.ErrSum, func() api.Errno { return y.offer(data) })
 }
 
 // P19.3: errors, in their order.
@@ -471,18 +486,35 @@ func TestReport(t *testing.T) {
 	}
 }
 
+// noTrust is a mind whose first trust is none.
+func noTrust(t *testing.T, director api.Trusted) []byte {
+	t.Helper()
+	b, err := tuf.Encode(director)
+	must(t, err, api.OK)
+	var w octet.Writer
+	w.Bytes([]byte{1, 2}, b)
+	w.Nums(1, 2, 3)
+	return w.Out()
+}
+
 // P19.4: Boot: the bank's errors, a mind that is none; what ran goes on.
 func TestErrorsOfBoot(t *testing.T) {
 	y := newYard(t, true)
 	image, director := y.e.Trusted()
 	good := mindOf(t, image, director, 1, 2, 3)
 	was := look(y.e)
-	for i, b := range [][]byte{nil, good[1:], good[:len(good)-1], append(good[:len(good):len(good)], 0), mindOf(t, image, director, 1, 2, 17)} {
+	for i, b := range [][]byte{nil, good[1:], good[:len(good)-1], append(good[:len(good):len(good)], 0), mindOf(t, image, director, 1, 2, 17),
+		mindOf(t, image, director, api.MaxNumber+1, 2, 3), mindOf(t, image, director, 1, api.MaxNumber+1, 3), noTrust(t, director)} {
 		must(t, bank.Keep(y.e.Flash(), b), api.OK)
 		must(t, y.e.Boot(), api.ErrForm)
 		if !same(look(y.e), was) {
 			t.Error(i, "changed")
 		}
+	}
+	must(t, bank.Keep(y.e.Flash(), mindOf(t, image, director, api.MaxNumber, api.MaxNumber, 16)), api.OK)
+	must(t, y.e.Boot(), api.OK)
+	if y.e.Now() != api.MaxNumber {
+		t.Error(y.e.Now())
 	}
 	must(t, bank.Keep(y.e.Flash(), good), api.OK)
 	must(t, y.e.Boot(), api.OK)
@@ -557,12 +589,24 @@ var image = bytes.Repeat([]byte("image"), 30)
 
 func deeds() []deed {
 	return []deed{
-		{"Nonce", func(y *yard) {}, func(y *yard) api.Errno { _, err := y.e.Nonce(); return err }},
+		{"Nonce", func(y *yard) {}, func(y *yard) api.Errno {
+			n, err := y.e.Nonce()
+			if (n == 0) != (err != api.OK) {
+				y.t.Error("Nonce with an error, or none without", n, err)
+			}
+			return err
+		}},
 		{"SetTime", func(y *yard) { y.e.Nonce() }, func(y *yard) api.Errno {
 			a, _ := y.clock.Attest(1, 9)
 			return y.e.SetTime(a)
 		}},
-		{"Report", func(y *yard) {}, func(y *yard) api.Errno { _, err := y.e.Report(); return err }},
+		{"Report", func(y *yard) {}, func(y *yard) api.Errno {
+			e, err := y.e.Report()
+			if (len(e.Marks) == 0) != (err != api.OK) {
+				y.t.Error("a report with an error, or none without", err)
+			}
+			return err
+		}},
 		{"Offer", func(y *yard) { y.publish("a", image, 1) }, func(y *yard) api.Errno { return y.offer(image) }},
 		{"Offer of what runs", func(y *yard) {
 			y.publish("a", image, 1)
@@ -684,6 +728,9 @@ func TestNothingIsShared(t *testing.T) {
 	s, b := e.Running()
 	clear(s.Mind)
 	clear(b)
+	if !same(look(e), was) {
+		t.Error("shared")
+	}
 	data := []byte("data and room")[:4]
 	y.e = e
 	y.publish("a", data, 1)

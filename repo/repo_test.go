@@ -182,14 +182,16 @@ func TestSign(t *testing.T) {
 	if !reflect.DeepEqual(r.Bundle(), was) || !slices.Equal(r.Ledger(), ledger) {
 		t.Error("changed")
 	}
-	must(t, r.Sign(-1, 1), api.ErrArg)
+	for _, c := range [][2]int{{-1, 1}, {api.MaxNumber + 1, 0}, {api.MaxNumber, 1}, {1, api.MaxNumber}, {1, -1}} {
+		must(t, r.Sign(c[0], c[1]), api.ErrArg) // ahead of ErrUsed
+	}
 }
 
 // P16.3: which times may be.
 func TestErrorsOfSign(t *testing.T) {
 	const most = api.MaxNumber
 	r := repo.New(seed)
-	for _, c := range [][2]int{{-1, 0}, {0, -1}, {most + 1, 0}, {0, most + 1}, {most, 1}, {1, most}, {math.MinInt, 0}, {math.MaxInt, math.MaxInt}, {0, math.MinInt}, {math.MinInt, math.MaxInt}, {5, math.MaxInt}} {
+	for _, c := range [][2]int{{-1, 0}, {0, -1}, {most + 1, 0}, {0, most + 1}, {most, 1}, {1, most}, {math.MinInt, 0}, {math.MaxInt, math.MaxInt}, {0, math.MinInt}, {math.MinInt, math.MaxInt}, {5, math.MaxInt}, {5, -1}, {5, -5}, {-1, 5}, {-5, 5}, {most + 1, -5}, {most + 5, -5}, {-5, most + 1}} {
 		must(t, r.Sign(c[0], c[1]), api.ErrArg)
 	}
 	used(t, r, 0, 0)
@@ -311,6 +313,18 @@ func TestNoLeafSignsTwice(t *testing.T) {
 	}
 }
 
+// flat is a bundle's envelopes as texts: nothing of it is shared with the bundle.
+func flat(t *testing.T, b api.Bundle) []string {
+	t.Helper()
+	var l []string
+	for _, e := range slices.Concat(b.Roots, []api.Envelope{b.Time, b.Snap}, b.Targets) {
+		x, err := wire.EncodeEnvelope(e)
+		must(t, err, api.OK)
+		l = append(l, string(x))
+	}
+	return l
+}
+
 // P16.5: what is answered is new.
 func TestNothingIsShared(t *testing.T) {
 	r := repo.New(seed)
@@ -318,7 +332,7 @@ func TestNothingIsShared(t *testing.T) {
 	must(t, r.Publish(target("m", "", 1)), api.OK)
 	must(t, r.Rotate(), api.OK)
 	must(t, r.Sign(0, 9), api.OK)
-	was := r.Bundle()
+	was := flat(t, r.Bundle())
 	b := r.Bundle()
 	for _, e := range append([]api.Envelope{b.Time, b.Snap}, append(b.Targets, b.Roots...)...) {
 		clear(e.Body)
@@ -333,7 +347,7 @@ func TestNothingIsShared(t *testing.T) {
 	_ = append(r.Targets()[:1], api.Target{})
 	clear(r.Ledger())
 	clear(r.Root().Roles[0].Keys)
-	if !reflect.DeepEqual(r.Bundle(), was) || r.Targets()[0].Name != "m" || r.Ledger()[1].Name != "n" || !reflect.DeepEqual(r.Root(), rootOf(1)) {
+	if !slices.Equal(flat(t, r.Bundle()), was) || r.Targets()[0].Name != "m" || r.Ledger()[1].Name != "n" || !reflect.DeepEqual(r.Root(), rootOf(1)) {
 		t.Error("shared")
 	}
 	root := r.Root()

@@ -258,6 +258,7 @@ func TestWaits(t *testing.T) {
 	run(t, "what is none does not wait longer", step{0, start, nil, 0, 1}, step{9, nil, nil, 1, 1}, step{9, first(1), nil, 2, 1}, step{11, one, nil, 4, 0})
 	run(t, "all of time", step{far, start, nil, 0, 1}, step{far, one, nil, 0, 1}, step{far, two, all, 0, 0})
 	run(t, "outside of time", step{math.MinInt, start, nil, 0, 1}, step{math.MaxInt, one, nil, 2, 0})
+	run(t, "outside of time, behind", step{math.MaxInt, start, nil, 0, 1}, step{math.MinInt, one, nil, 2, 0})
 	j := seg.New()
 	j.Take(frame(1, start...), 0)
 	j.Take(frame(2, whole...), 500)

@@ -261,6 +261,8 @@ func TestTime(t *testing.T) {
 	p := fresh(3)
 	p.time.Version = 1
 	same(t, mustOK(t, unset, p.bundle(), 50), p.trusts(rootOf(1)))
+	p.time.Snap, p.snap.Version, p.snap.Pins[0].Version, p.targets[1].Version = 2, 2, 1, 1
+	same(t, mustOK(t, unset, p.bundle(), 50), p.trusts(rootOf(1)))
 }
 
 // P9.1, 3: Snap.
@@ -336,6 +338,7 @@ func TestTargets(t *testing.T) {
 	try(t, start, []change{
 		{"not in Snap's Pins", func(p *plan) { p.snap.Pins = p.snap.Pins[1:]; p.targets[1].Version = 9 }, api.ErrNone},
 		{"not in Snap's Pins, not signed", func(p *plan) { p.snap.Pins = p.snap.Pins[1:]; p.targetBy[1] = nil }, api.ErrSigned},
+		{"the last one not in Snap's Pins", func(p *plan) { p.snap.Pins = []api.Pin{p.snap.Pins[0], p.snap.Pins[2]} }, api.ErrNone},
 		{"no top in Snap's Pins", func(p *plan) { p.snap.Pins = p.snap.Pins[:2] }, api.ErrNone},
 	})
 	for i := range 3 {
@@ -363,6 +366,10 @@ func TestManyTargets(t *testing.T) {
 	b := p.bundle()
 	b.Targets = append(b.Targets, api.Envelope{})
 	mustErr(t, "17", start(), b, 0, api.ErrForm)
+	b.Targets[0].Marks = nil
+	mustErr(t, "17, and not signed", start(), b, 0, api.ErrForm)
+	b.Targets = b.Targets[:16]
+	mustErr(t, "16, and not signed", start(), b, 0, api.ErrSigned)
 	b = fresh(1).bundle()
 	b.Targets = append(b.Targets, slices.Repeat([]api.Envelope{{}}, 20)...)
 	b.Targets[0].Marks = nil

@@ -200,6 +200,12 @@ func TestPublish(t *testing.T) {
 	if _, ok := w.Blob("z"); ok {
 		t.Error("z")
 	}
+	long := string(bytes.Repeat([]byte("x"), api.MaxImage))
+	does(t, w, publish("a", long, 8, 0), api.OK)
+	does(t, w, publish("a", long+"x", 8, 0), api.ErrArg)
+	if b, ok := w.Blob("a"); !ok || string(b) != long {
+		t.Error(len(b))
+	}
 	does(t, w, publish("a", "new", 8, 0), api.OK)
 	if b, ok := w.Blob("a"); !ok || string(b) != "new" || w.Images().Targets()[0].Counter != 8 {
 		t.Error(b)
@@ -368,6 +374,10 @@ func TestForgeAt(t *testing.T) {
 	for _, at := range []int{0, -1, math.MinInt, l, 5 * l} {
 		does(t, w, forge(0, 3, at, 2), api.ErrForm) // the kind is another one
 		does(t, w, forge(0, 6, 0, 2), api.ErrForm)
+		does(t, w, forge(0, 1, at, 2), api.ErrSigned) // of Time that is asked later
+		does(t, w, forge(0, 4, at, 2), api.ErrSigned)
+		does(t, w, forge(0, 2, at, 2), api.ErrSum)
+		does(t, w, forge(0, 5, at, 2), api.ErrSum)
 	}
 	for _, at := range []int{l - 1, 2*l - 1, 20} {
 		if err := w.Do(forge(0, 3, at, 1)); err != api.ErrForm && err != api.ErrSigned {
@@ -380,6 +390,31 @@ func TestForgeAt(t *testing.T) {
 	does(t, w, offer(0), api.OK) // what is handed out is not changed
 	if b, _ := w.Blob("a"); string(b) != "image a" {
 		t.Error(b)
+	}
+}
+
+// P20.3: which byte of Data it is: turned back, what was turned is as it was signed.
+func TestForgeBack(t *testing.T) {
+	for _, data := range []string{"i", "image"} {
+		for place := range len(data) {
+			turned := []byte(data)
+			turned[place] ^= 0x21
+			n := len(data)
+			ats := []int{place, place + n, place + 1000*n}
+			if place == 0 {
+				ats = append(ats, -1, -n, math.MinInt)
+			}
+			for _, at := range ats {
+				w := newWorld(t, 1)
+				all(t, w, publish("a", data, 1, 0), assign(0, "a"), sign(0, 9), sign(1, 9), publish("a", string(turned), 1, 0))
+				does(t, w, offer(0), api.ErrSum)
+				if n > 1 {
+					does(t, w, forge(0, 0, place+1, 0x21), api.ErrSum)
+				}
+				does(t, w, forge(0, 7, at, 0x21), api.OK)
+				runs(t, w, 0, "a", data, 1)
+			}
+		}
 	}
 }
 
