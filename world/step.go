@@ -142,8 +142,9 @@ func (w *World) offer(s Step) api.Errno { return w.hand(s.M, w.out(s.M)) }
 
 func (w *World) forge(s Step) api.Errno {
 	h := w.out(s.M)
-	// A rest from 0 to 6, below nought too.
-	switch which := (s.N%7 + 7) % 7; {
+	// The language's rest of a number below 0 is below 0.
+	which := (s.N%7 + 7) % 7
+	switch {
 	case which == 0:
 		turn(h.data, s)
 	case which <= 3:
